@@ -433,13 +433,19 @@ func TestP9TheListStaysAsItWas(t *testing.T) {
 	}
 }
 
+// writeOver changes all of an answer, and the spare room behind it.
+func writeOver(l []int64) {
+	l = l[:cap(l)]
+	for i := range l {
+		l[i] = -7
+	}
+}
+
 func TestP9OutInSharesNoMemory(t *testing.T) {
 	for bits := range 1 << sixFans {
 		l, want := outs(sixFans, bits)
 		one, other := impl.OutIn(l), impl.OutIn(l)
-		for i := range one[:cap(one)] {
-			one[:cap(one)][i] = -7
-		}
+		writeOver(one)
 		clear(l)
 		if !slices.Equal(other, want) {
 			t.Errorf("one answer and what was given were changed, and the other answer is %v, want %v", other, want)
